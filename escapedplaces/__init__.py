@@ -1,0 +1,1 @@
+"""Stenciltext: a template engine that escapes by place."""
