@@ -1,34 +1,24 @@
-"""Reading a template from its beginning to its end, or to its fault."""
+"""Reading a template or markup from its beginning to its end, or to its fault."""
 
+from escapedplaces.places import BEHIND_BLANK, BEHIND_VALUE, TEXT, end_quote, is_in_tag, is_in_value, place_behind_quote
+from escapedplaces.references import reference_ends
+from escapedplaces.signs import AMPERSAND, BANG, CLOSING_BRACE, DOUBLE_QUOTE, EQUALS, GREATER, LESS, NO_BYTE
+from escapedplaces.signs import OPENING_BRACE, QUESTION, SINGLE_QUOTE, SLASH, STAR
 from escapedplaces.signs import LONGEST_NAME, continues_markup_name, continues_name, is_blank, is_letter
 
 MOST_SECTIONS = 16
 
-# The kinds of places in which a section may begin and end.
-TEXT = 1
-DOUBLE_QUOTED = 2
-SINGLE_QUOTED = 3
-BEHIND_BLANK = 4
-BEHIND_VALUE = 5
-
-# Stands for the byte behind the last one: no byte equals it.
-NO_BYTE = 256
-
-BANG = 33
-DOUBLE_QUOTE = 34
-AMPERSAND = 38
-SINGLE_QUOTE = 39
-STAR = 42
-SLASH = 47
-LESS = 60
-EQUALS = 61
-GREATER = 62
-QUESTION = 63
-OPENING_BRACE = 123
-CLOSING_BRACE = 125
-
-# What may stand behind an ampersand. None of them begins another one.
-REFERENCE_ENDS = ("lt;", "gt;", "amp;", "quot;", "apos;")
+# What a token is. Markup tells names and values under just these numbers.
+OPENING_TAG = 2
+ATTRIBUTE_NAME = 3
+ATTRIBUTE_VALUE = 4
+CLOSING_TAG = 5
+PLAIN_BYTE = 6
+REFERENCE = 7
+DOUBLED_BRACE = 8
+HOLE = 9
+SECTION_BEGIN = 10
+SECTION_END = 11
 
 
 class Fault(ValueError):
@@ -36,22 +26,34 @@ class Fault(ValueError):
         self.place = place
 
 
+class Token:
+    def __init__(self, what, kind, begin, end):
+        self.what = what
+        # The kind of place that the token stands in.
+        self.kind = kind
+        self.begin = begin
+        self.end = end
+
+
 class Scanner:
     # Between two pieces the scanner stands in one of the five kinds of
     # places. From each of them a template can still reach each other one
     # without a section, so whatever has been read so far begins some
     # template, and a fault is where a piece meets a byte it can't take.
+    # Markup is read likewise, a brace being a byte like others there.
 
-    def __init__(self, template):
-        self.template = template
+    def __init__(self, row, is_template):
+        self.row = row
+        self.is_template = is_template
         self.place = 0
         self.kind = TEXT
         # For each section that is open, the kind of place it began in.
         self.sections = []
+        self.tokens = []
 
     def peek(self):
-        if self.place < len(self.template):
-            return self.template[self.place]
+        if self.place < len(self.row):
+            return self.row[self.place]
         return NO_BYTE
 
     def take_if(self, allowed):
@@ -59,18 +61,22 @@ class Scanner:
             raise Fault(self.place)
         self.place += 1
 
+    def note(self, what, begin):
+        self.tokens.append(Token(what, self.kind, begin, self.place))
+
     def scan(self):
-        while self.place < len(self.template):
+        while self.place < len(self.row):
             self.take_piece()
         if self.kind != TEXT or self.sections != []:
             raise Fault(self.place)
+        return self.tokens
 
     def take_piece(self):
-        if self.peek() == OPENING_BRACE:
+        if self.is_template and self.peek() == OPENING_BRACE:
             self.take_braces()
         elif self.kind == TEXT:
             self.take_in_text()
-        elif self.kind in (DOUBLE_QUOTED, SINGLE_QUOTED):
+        elif is_in_value(self.kind):
             self.take_in_value()
         else:
             self.take_in_tag()
@@ -82,18 +88,19 @@ class Scanner:
         elif byte == AMPERSAND:
             self.take_reference()
         else:
-            self.place += 1
+            self.take_plain_byte()
 
     def take_in_value(self):
         byte = self.peek()
-        quote = DOUBLE_QUOTE if self.kind == DOUBLE_QUOTED else SINGLE_QUOTE
-        if byte == quote:
+        if byte == end_quote(self.kind):
             self.place += 1
             self.kind = BEHIND_VALUE
         elif byte == AMPERSAND:
             self.take_reference()
+        elif byte == LESS:
+            raise Fault(self.place)
         else:
-            self.take_if(byte != LESS)
+            self.take_plain_byte()
 
     def take_in_tag(self):
         if self.kind == BEHIND_BLANK and is_letter(self.peek()):
@@ -101,14 +108,19 @@ class Scanner:
         else:
             self.take_blank_or_tag_end()
 
+    def take_plain_byte(self):
+        begin = self.place
+        self.place += 1
+        self.note(PLAIN_BYTE, begin)
+
     def take_tag_name(self):
         self.place += 1
         if self.peek() == SLASH:
             self.place += 1
-            self.take_markup_name()
+            self.take_markup_name(CLOSING_TAG)
             self.take_if(self.peek() == GREATER)
         else:
-            self.take_markup_name()
+            self.take_markup_name(OPENING_TAG)
             # Right behind the name no section may stand, so this is no
             # place to stop at.
             self.take_blank_or_tag_end()
@@ -119,27 +131,34 @@ class Scanner:
         self.kind = TEXT if byte == GREATER else BEHIND_BLANK
 
     def take_attribute_name(self):
-        self.take_markup_name()
+        self.take_markup_name(ATTRIBUTE_NAME)
         self.take_if(self.peek() == EQUALS)
         quote = self.peek()
         self.take_if(quote in (DOUBLE_QUOTE, SINGLE_QUOTE))
-        self.kind = DOUBLE_QUOTED if quote == DOUBLE_QUOTE else SINGLE_QUOTED
+        self.kind = place_behind_quote(quote)
+        # Noted where it begins, so that a value of no bytes is told too.
+        self.note(ATTRIBUTE_VALUE, self.place)
 
-    def take_markup_name(self):
+    def take_markup_name(self, what):
+        begin = self.place
         self.take_if(is_letter(self.peek()))
         while continues_markup_name(self.peek()):
             self.place += 1
+        self.note(what, begin)
 
     def take_reference(self):
+        begin = self.place
         self.place += 1
-        ends = list(REFERENCE_ENDS)
+        ends = reference_ends()
         while ends != [""]:
             byte = self.peek()
             ends = [end[1:] for end in ends if ord(end[0]) == byte]
             self.take_if(ends != [])
+        self.note(REFERENCE, begin)
 
     def take_braces(self):
-        in_tag = self.kind in (BEHIND_BLANK, BEHIND_VALUE)
+        begin = self.place
+        in_tag = is_in_tag(self.kind)
         may_begin = len(self.sections) < MOST_SECTIONS
         may_end = self.sections != [] and self.sections[-1] == self.kind
         # In a tag there are sections alone: where none may begin and none
@@ -147,25 +166,29 @@ class Scanner:
         self.take_if(may_begin or may_end or not in_tag)
         byte = self.peek()
         if byte == SLASH and may_end:
-            self.take_section_end()
+            self.take_section_end(begin)
         elif byte in (STAR, QUESTION, BANG) and may_begin:
-            self.take_section_begin()
-        elif byte == OPENING_BRACE and not in_tag:
-            self.place += 1
-        elif not in_tag:
-            self.take_name_and_brace()
-        else:
+            self.take_section_begin(begin)
+        elif in_tag:
             raise Fault(self.place)
+        elif byte == OPENING_BRACE:
+            self.place += 1
+            self.note(DOUBLED_BRACE, begin)
+        else:
+            self.take_name_and_brace()
+            self.note(HOLE, begin)
 
-    def take_section_begin(self):
+    def take_section_begin(self, begin):
         self.place += 1
         self.take_name_and_brace()
         self.sections.append(self.kind)
+        self.note(SECTION_BEGIN, begin)
 
-    def take_section_end(self):
+    def take_section_end(self, begin):
         self.place += 1
         self.take_if(self.peek() == CLOSING_BRACE)
         self.sections.pop()
+        self.note(SECTION_END, begin)
 
     def take_name_and_brace(self):
         begin = self.place
@@ -176,4 +199,8 @@ class Scanner:
 
 
 def scan_template(template):
-    Scanner(template).scan()
+    return Scanner(template, True).scan()
+
+
+def scan_markup(markup):
+    return Scanner(markup, False).scan()

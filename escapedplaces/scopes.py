@@ -1,5 +1,7 @@
 """The values: scopes with texts and lists, and the room that they take."""
 
+from escapedplaces.places import DOUBLE_QUOTED, SINGLE_QUOTED, TEXT
+from escapedplaces.references import written_in_place
 from escapedplaces.signs import is_name
 
 LONGEST_TEXT = 64
@@ -8,10 +10,38 @@ MOST_ENTRIES = 32
 MOST_BYTES = 512
 
 
+class Text:
+    def __init__(self, row):
+        self.length = len(row)
+        # As it is written in each kind of place. An output has it up to
+        # thousands of times, so this is done once.
+        self.written = {}
+        for kind in (TEXT, DOUBLE_QUOTED, SINGLE_QUOTED):
+            self.written[kind] = written_in_place(row, kind)
+
+
 class Scope:
     def __init__(self):
         self.texts = {}
         self.lists = {}
+
+
+def written_value(scopes, key, kind):
+    for scope in reversed(scopes):
+        if key in scope.texts:
+            return scope.texts[key].written[kind]
+        if key in scope.lists:
+            return []
+    return []
+
+
+def is_there(scopes, key):
+    for scope in reversed(scopes):
+        if key in scope.texts:
+            return scope.texts[key].length > 0
+        if key in scope.lists:
+            return True
+    return False
 
 
 class Store:
@@ -23,6 +53,12 @@ class Store:
         self.entry_count = 0
         self.byte_count = 0
 
+    def outermost(self):
+        return self.trail[0]
+
+    def has_open_item(self):
+        return len(self.trail) > 1
+
     def take_room(self, more_entries, more_bytes):
         entry_count = self.entry_count + more_entries
         byte_count = self.byte_count + more_bytes
@@ -32,20 +68,20 @@ class Store:
         self.byte_count = byte_count
         return True
 
-    def take_room_for_text(self, key, text):
+    def take_room_for_text(self, key, row):
         texts = self.trail[-1].texts
         if key in texts:
-            return self.take_room(0, len(text) - len(texts[key]))
-        return self.take_room(1, len(key) + len(text))
+            return self.take_room(0, len(row) - texts[key].length)
+        return self.take_room(1, len(key) + len(row))
 
-    def put_text(self, name, text):
+    def put_text(self, name, row):
         scope = self.trail[-1]
         key = tuple(name)
         if not is_name(name) or key in scope.lists:
             return -1
-        if len(text) > LONGEST_TEXT or not self.take_room_for_text(key, text):
+        if len(row) > LONGEST_TEXT or not self.take_room_for_text(key, row):
             return -2
-        scope.texts[key] = list(text)
+        scope.texts[key] = Text(row)
         return 0
 
     def open_item(self, name):
@@ -62,7 +98,7 @@ class Store:
         return 0
 
     def close_item(self):
-        if len(self.trail) == 1:
+        if not self.has_open_item():
             return -1
         self.trail.pop()
         return 0

@@ -1,9 +1,24 @@
-"""The kinds of bytes, and the names that are made of them."""
+"""The kinds of bytes, those that say something in markup, and names."""
 
 LONGEST_NAME = 32
 
+# Stands for the byte behind the last one: no byte equals it.
+NO_BYTE = 256
+
+BANG = 33
+DOUBLE_QUOTE = 34
+AMPERSAND = 38
+SINGLE_QUOTE = 39
+STAR = 42
 HYPHEN = 45
+SLASH = 47
+LESS = 60
+EQUALS = 61
+GREATER = 62
+QUESTION = 63
 UNDERSCORE = 95
+OPENING_BRACE = 123
+CLOSING_BRACE = 125
 
 
 def is_letter(byte):

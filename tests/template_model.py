@@ -123,3 +123,13 @@ def longest_beginning(text):
         else:
             known = middle
     return known
+
+
+def grown_template(source, parts):
+    # Only parts after which some template goes on are kept, so it grows deep.
+    text = ""
+    for part in range(source.randint(1, 40)):
+        longer = text + source.choice(parts)
+        if template_that_begins_with(longer) is not None:
+            text = longer
+    return template_that_begins_with(text)

@@ -4,7 +4,7 @@ import random
 import unittest
 
 from tests.calls import ask, compiling
-from tests.template_model import expected_answer, template_that_begins_with
+from tests.template_model import expected_answer, grown_template, template_that_begins_with
 
 FULL = "{?a}" * 16
 BEGINNINGS = [
@@ -61,21 +61,11 @@ class CompileAgainstTheModel(unittest.TestCase):
         source = random.Random(4)
         texts = []
         while len(texts) < 3000:
-            template = grown_template(source)
+            template = grown_template(source, PARTS)
             if len(template) <= 256:
                 texts.append(template)
                 texts.append(with_a_slip(source, template))
         self.compare(texts)
-
-
-def grown_template(source):
-    # Only parts after which some template goes on are kept, so it grows deep.
-    text = ""
-    for part in range(source.randint(1, 40)):
-        longer = text + source.choice(PARTS)
-        if template_that_begins_with(longer) is not None:
-            text = longer
-    return template_that_begins_with(text)
 
 
 def with_a_slip(source, template):

@@ -181,6 +181,17 @@ class Names(unittest.TestCase):
         for name, node in nodes(ast.arg):
             self.assertNotIn(node.arg, dir(builtins), name)
 
+    def test_locals_are_not_called_like_a_class_or_an_import_of_their_file(self):
+        for name, tree in trees().items():
+            drawn = [alias.name for node in tree.body if isinstance(node, ast.ImportFrom) for alias in node.names]
+            classes = [node.name for node in tree.body if isinstance(node, ast.ClassDef)]
+            self.assertEqual(len(drawn), len(set(drawn)), name)
+            for node in ast.walk(tree):
+                if isinstance(node, ast.arg):
+                    self.assertNotIn(node.arg, drawn + classes, name)
+                if isinstance(node, ast.Name) and isinstance(node.ctx, ast.Store):
+                    self.assertNotIn(node.id, drawn + classes, name)
+
     def test_methods(self):
         for name, node in nodes(ast.Call):
             if isinstance(node.func, ast.Attribute):

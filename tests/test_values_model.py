@@ -5,6 +5,8 @@ import re
 import unittest
 
 from escapedplaces.engine import Engine
+from escapedplaces.pieces import FILLED
+from escapedplaces.places import TEXT
 from tests.calls import CLEAR, CLOSE, ask_codes, opening, putting
 
 NAMES = ["a", "b", "bc", "n" * 32, "m" * 31, "9", "", "n" * 33]
@@ -58,14 +60,21 @@ def is_name(name):
 
 
 def shown(scope):
-    texts = [(key, tuple(text)) for key, text in scope.texts.items()]
+    # No byte of the values here is written otherwise in text.
+    texts = [(key, tuple(text.written[TEXT])) for key, text in scope.texts.items()]
     lists = [(key, tuple(shown(item) for item in items)) for key, items in scope.lists.items()]
     return tuple(texts), tuple(lists)
 
 
+def shown_template(engine):
+    if engine.pieces is None:
+        return None
+    return [(piece.what, piece.kind, tuple(piece.row), piece.partner) for piece in engine.pieces]
+
+
 def shown_engine(engine):
     store = engine.store
-    return engine.template, shown(store.trail[0]), len(store.trail), shown(store.trail[-1])
+    return shown_template(engine), shown(store.trail[0]), len(store.trail), shown(store.trail[-1])
 
 
 def random_step(source, model):
@@ -123,9 +132,10 @@ class WhatTheObjectKeeps(unittest.TestCase):
         engine.answer_open([98])
         item_one, item_two = ((((97,), (4,)),), ()), ((), ())
         outermost = ((((97,), (3,)),), (((98,), (item_one, item_two)),))
-        self.assertEqual(shown_engine(engine), ([123, 97, 125], outermost, 2, item_two))
+        template = [(FILLED, TEXT, (97,), None)]
+        self.assertEqual(shown_engine(engine), (template, outermost, 2, item_two))
         engine.answer_clear()
-        self.assertEqual(shown_engine(engine), ([123, 97, 125], ((), ()), 1, ((), ())))
+        self.assertEqual(shown_engine(engine), (template, ((), ()), 1, ((), ())))
 
     def test_a_refusal_leaves_everything_as_it_was(self):
         engine = Engine()
@@ -142,6 +152,10 @@ class WhatTheObjectKeeps(unittest.TestCase):
         self.assertEqual(engine.answer_open([97]), [-1])
         self.assertEqual(engine.answer_open([57]), [-1])
         self.assertEqual(engine.answer_close(), [-1])
+        self.assertEqual(engine.answer_check([60]), [-1, 1])
+        self.assertEqual(engine.answer_check([120] * 1025), [-2])
+        self.assertEqual(engine.answer_event(0, [60]), [-1])
+        self.assertEqual(engine.answer_event(0, [120] * 1025), [-2])
         self.assertEqual(shown_engine(engine), before)
 
     def test_a_refusal_for_want_of_room_leaves_everything_as_it_was(self):
